@@ -1,0 +1,1 @@
+"""Caches and guesses, followed through a record."""
